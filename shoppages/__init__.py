@@ -1,0 +1,1 @@
+"""Pages that a shop could have printed."""
