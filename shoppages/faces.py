@@ -3,6 +3,7 @@
 from shoppages.faults import FormFault
 from shoppages.readers import ByteReader
 from shoppages.scans import INK, PAPER
+from shoppages.writers import number_form, numbers_form
 
 FREE = 2
 
@@ -103,3 +104,25 @@ def row_points(ink, paper, width):
         else:
             points.append(FREE)
     return points
+
+
+def face_form(face):
+    """The bytes that tell the face."""
+    form = list(FACE_MARK) + [face.height] + numbers_form((face.wrong_cost, len(face.glyphs)), 2)
+    for glyph in face.glyphs:
+        form.extend(glyph_form(glyph))
+    return form
+
+
+def glyph_form(glyph):
+    form = number_form(glyph.letter, 2) + [glyph.width] + numbers_form((glyph.budget, glyph.cost), 2)
+    return form + plane_form(glyph, INK) + plane_form(glyph, PAPER)
+
+
+def plane_form(glyph, need):
+    """The plane that tells which points must be so."""
+    form = []
+    for points in glyph.points:
+        bits = sum([1 << x for x, point in enumerate(points) if point == need])
+        form.extend(number_form(bits, row_size(glyph.width)))
+    return form

@@ -6,7 +6,7 @@ class NoShop(Exception):
 
 
 class WrongArgument(Exception):
-    """What's said, a watch or a page isn't one (-1)."""
+    """What's said, a watch or a page isn't one, or a scan can't have that size (-1)."""
 
 
 class FormFault(Exception):
@@ -18,4 +18,4 @@ class FormFault(Exception):
 
 
 class CannotBe(Exception):
-    """The page couldn't be the scan (-2)."""
+    """The page couldn't be the scan, or no page could (-2)."""

@@ -3,41 +3,7 @@
 from shoppages.faults import CannotBe
 from shoppages.pages import page_spots
 from shoppages.said import agrees
-from shoppages.scans import INK, PAPER, posed_rows
-
-ACROSS = 0
-DOWN = 1
-
-DENSITY_POINTS = 65536
-
-
-class Sheet:
-    """A scan in its pose, and how many specks the shop leaves to a blank."""
-
-    def __init__(self, shop, scan, pose):
-        self.width = scan.width
-        self.height = scan.height
-        self.rows = posed_rows(scan, pose)
-        self.density = shop.density
-        self.slack = shop.slack
-
-    def is_blank(self, box):
-        specks = sum([row[box[0]:box[1]].count(INK) for row in self.rows[box[2]:box[3]]])
-        points = (box[1] - box[0]) * (box[3] - box[2])
-        return DENSITY_POINTS * specks <= self.density * points + DENSITY_POINTS * self.slack
-
-    def count_wrong(self, glyph, x, y):
-        """How many of the glyph's points are wrong where it's put at (x, y)."""
-        wrong = 0
-        for j, needs in enumerate(glyph.points):
-            points = self.rows[y + j][x:x + glyph.width]
-            wrong += sum([1 for need, point in zip(needs, points) if is_wrong(need, point)])
-        return wrong
-
-
-def is_wrong(need, point):
-    """Free and unclear are neither ink nor paper, so never wrong."""
-    return (need == INK and point == PAPER) or (need == PAPER and point == INK)
+from shoppages.sheets import ACROSS, DOWN, Sheet, cut_box
 
 
 def page_cost(shop, scan, remarks, page):
@@ -77,10 +43,10 @@ def line_cost(sheet, kind, column, line):
 
 
 def letter_cost(sheet, line, letter):
-    wrong = sheet.count_wrong(letter.glyph, letter.first, line.first)
-    if wrong > letter.glyph.budget:
+    cost = sheet.fit_cost(line.face, letter.glyph, letter.first, line.first)
+    if cost is None:
         raise CannotBe()
-    return letter.glyph.cost + line.face.wrong_cost * wrong
+    return cost
 
 
 def level_cost(sheet, level, items, box, direction):
@@ -88,13 +54,13 @@ def level_cost(sheet, level, items, box, direction):
     blanks = level_blanks(level, items, box[2 * direction], box[2 * direction + 1])
     # All sizes are asked ahead of any point: only then does every blank lie on the scan.
     for room, first, end in blanks:
-        if end - first < room.smallest or end - first > room.largest:
+        if not room.takes(end - first):
             raise CannotBe()
     cost = 0
     for room, first, end in blanks:
         if not sheet.is_blank(cut_box(box, direction, first, end)):
             raise CannotBe()
-        cost += room.rate * abs(end - first - room.natural)
+        cost += room.size_cost(end - first)
     return cost
 
 
@@ -118,10 +84,3 @@ def gap_room(level, gap):
     if gap >= len(level.gaps):
         raise CannotBe()
     return level.gaps[gap]
-
-
-def cut_box(box, direction, first, end):
-    """The part of the box from first to end in that direction."""
-    if direction == ACROSS:
-        return (first, end, box[2], box[3])
-    return (box[0], box[1], first, end)

@@ -116,11 +116,16 @@ def letter_spot(line, letter):
     return ((letter.first, letter.end, line.first, line.end), letter.glyph.letter)
 
 
-def page_spots(page):
-    """The spots of all the page's letters, in their order."""
-    spots = []
+def page_letters(page):
+    """All the page's letters in their order, each with its line."""
+    letters = []
     for band in page.bands:
         for column in band.columns:
             for line in column.lines:
-                spots.extend([letter_spot(line, letter) for letter in line.letters])
-    return spots
+                letters.extend([(line, letter) for letter in line.letters])
+    return letters
+
+
+def page_spots(page):
+    """The spots of all the page's letters, in their order."""
+    return [letter_spot(line, letter) for line, letter in page_letters(page)]

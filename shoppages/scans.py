@@ -2,6 +2,7 @@
 
 from shoppages.faults import FormFault
 from shoppages.readers import ByteReader
+from shoppages.writers import numbers_form
 
 PAPER = 0
 INK = 1
@@ -21,6 +22,11 @@ class Scan:
         self.width = width
         self.height = height
         self.rows = rows
+
+
+def scan_may_be(width, height):
+    """Whether a scan may have that many columns and rows."""
+    return 1 <= width <= MOST_ALONG and 1 <= height <= MOST_ALONG and width * height <= MOST_POINTS
 
 
 def read_scan(row):
@@ -73,6 +79,16 @@ def row_form(points, above):
         if size == LONGEST_RUN or points[x + 1:x + 2] != [point]:
             form.append(LONGEST_RUN * point + size - 1)
             size = 0
+    return form
+
+
+def scan_form(scan):
+    """The bytes that tell the scan."""
+    form = list(SCAN_MARK) + numbers_form((scan.width, scan.height), 4)
+    above = None
+    for points in scan.rows:
+        form.extend(row_form(points, above))
+        above = points
     return form
 
 

@@ -1,9 +1,10 @@
 """Shops: what they may print and what it costs, and their form."""
 
-from shoppages.faces import MOST_COST, read_face
+from shoppages.faces import MOST_COST, face_form, read_face
 from shoppages.faults import FormFault
 from shoppages.readers import ByteReader
 from shoppages.scans import MOST_ALONG
+from shoppages.writers import number_form, numbers_form
 
 SHOP_MARK = (83, 72, 79, 80)
 HEAD_SIZE = 32
@@ -24,6 +25,14 @@ class Room:
         self.natural = natural
         self.rate = rate
         self.token = None
+
+    def takes(self, size):
+        """Whether a blank of that size is within the rule."""
+        return self.smallest <= size <= self.largest
+
+    def size_cost(self, size):
+        """What a blank of that size costs."""
+        return self.rate * abs(size - self.natural)
 
 
 class Level:
@@ -153,3 +162,38 @@ def read_shop_face(reader):
         return read_face(form)
     except FormFault as fault:
         raise FormFault(64 + fault.rule, begin + fault.place) from None
+
+
+def shop_form(shop):
+    """The bytes that tell the shop."""
+    head = (shop.density, shop.slack, shop.upright, shop.pose_cost, len(shop.faces), len(shop.kinds))
+    form = numbers_form(head, 4) + level_form(shop.band_rule)
+    for kind in shop.kinds:
+        form.extend(kind_form(kind))
+    for face in shop.faces:
+        inner = face_form(face)
+        form.extend(number_form(len(inner), 4) + inner)
+    # The length counts the mark's four bytes and its own.
+    return list(SHOP_MARK) + number_form(len(form) + 8, 4) + form
+
+
+def kind_form(kind):
+    form = numbers_form((kind.cost, kind.least_width), 4)
+    for level in (kind.column_rule, kind.line_rule, kind.letter_rule):
+        form.extend(level_form(level))
+    form.extend(number_form(len(kind.face_costs), 4))
+    for face, cost in kind.face_costs.items():
+        form.extend(numbers_form((face, cost), 4))
+    return form
+
+
+def level_form(level):
+    form = room_form(level.lead) + number_form(len(level.gaps), 4)
+    for gap in level.gaps:
+        token = 0 if gap.token is None else gap.token + 1
+        form.extend(room_form(gap) + number_form(token, 4))
+    return form + room_form(level.trail)
+
+
+def room_form(room):
+    return numbers_form((room.smallest, room.largest, room.natural, room.rate), 4)

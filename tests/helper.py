@@ -2,7 +2,7 @@
 
 from shoppages.desk import answers
 
-OPEN, COULD, COST, TOKENS = 1, 2, 3, 4
+OPEN, COULD, COST, TOKENS, DRAW, BEST, BYTES = 1, 2, 3, 4, 5, 6, 7
 SIGNS = {".": 0, "#": 1, "?": 2}
 
 
@@ -128,6 +128,10 @@ def call(number, *rows):
     return [number] + [n for row in rows for n in [len(row)] + list(row)]
 
 
+def draw_call(width, height, page_row):
+    return [DRAW, width, height, len(page_row)] + list(page_row)
+
+
 def run(*calls):
     """Each call's answer as a list of its own."""
     handed = sum(calls, [])
@@ -147,7 +151,11 @@ def run(*calls):
 
 def asked(shop_row, number, *rows):
     """The answer of one call on that shop."""
-    taken = run(call(OPEN, shop_row), call(number, *rows))
+    return answered(shop_row, call(number, *rows))
+
+
+def answered(shop_row, one_call):
+    taken = run(call(OPEN, shop_row), one_call)
     assert taken[0] == [0], "the shop wasn't taken"
     return taken[1]
 
@@ -162,3 +170,16 @@ def cost(shop_row, scan_row, page_row, said=()):
 
 def tokens(shop_row, page_row, watch=()):
     return asked(shop_row, TOKENS, page_row, watch)
+
+
+def drawn(shop_row, width, height, page_row):
+    return answered(shop_row, draw_call(width, height, page_row))
+
+
+def best(shop_row, scan_row, said=()):
+    return asked(shop_row, BEST, scan_row, said)
+
+
+def best_told(cost_told, page_row):
+    """What best answers with that cost and page."""
+    return [0, cost_told, len(page_row)] + list(page_row)

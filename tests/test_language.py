@@ -28,6 +28,12 @@ WORDS = (
     "NamedTuple TypedDict TYPE_CHECKING abstractmethod").split()
 UNUSED = "register mro elements open input version_info with_traceback add_note format format_map".split()
 VALUES = (str, int, list, dict, set, bytes)
+WALKED = "zip enumerate reversed range items keys values".split()
+WALKERS = "list tuple dict sorted sum any all enumerate zip".split()
+CHANGES = "append clear extend insert pop remove reverse setdefault update".split()
+KEYWORDS = {
+    "sorted": {"key", "reverse"}, "min": {"key", "default"}, "max": {"key", "default"}, "sum": {"start"},
+    "enumerate": {"start"}, "zip": {"strict"}}
 
 
 def trees():
@@ -142,6 +148,40 @@ class Language(unittest.TestCase):
                 if isinstance(sign, (ast.Is, ast.IsNot)):
                     self.assertIn(getattr(value, "value", 0), (None, True, False), (file, node.lineno))
 
+    def test_walked_at_once(self):
+        for file, text, tree in trees():
+            walked = []
+            for node in ast.walk(tree):
+                if isinstance(node, (ast.For, ast.comprehension)):
+                    walked.append(node.iter)
+                elif isinstance(node, ast.Call) and node.args:
+                    name = called(node)
+                    if name in WALKERS or (name in ("min", "max") and len(node.args) == 1) or name == "join":
+                        walked.append(node.args[0])
+            for node in ast.walk(tree):
+                if isinstance(node, ast.Call) and called(node) in WALKED:
+                    self.assertTrue(any(node is one for one in walked), (file, node.lineno))
+
+    def test_what_a_loop_walks_is_not_changed(self):
+        for file, node in nodes(ast.For):
+            walked = {one.id for one in ast.walk(node.iter) if isinstance(one, ast.Name)}
+            for one in [part for row in node.body for part in ast.walk(row)]:
+                if isinstance(one, (ast.Subscript, ast.Name)) and isinstance(one.ctx, ast.Store):
+                    target = one.value if isinstance(one, ast.Subscript) else one
+                    self.assertNotIn(getattr(target, "id", None), walked, (file, one.lineno))
+                if isinstance(one, ast.Call) and isinstance(one.func, ast.Attribute) and one.func.attr in CHANGES:
+                    self.assertNotIn(getattr(one.func.value, "id", None), walked, (file, one.lineno))
+
+    def test_keywords(self):
+        for file, node in nodes(ast.Call):
+            if called(node) in OWN_NAMES or called(node) in VALUE_METHODS:
+                known = KEYWORDS.get(called(node), set())
+                self.assertLessEqual({one.arg for one in node.keywords}, known, (file, node.lineno))
+
+    def test_no_set_is_kept(self):
+        for file, node in nodes(ast.Call):
+            self.assertNotIn(called(node), ("set", "frozenset"), (file, node.lineno))
+
     def test_methods_and_values(self):
         methods, values, classes = set(), set(), []
         for file, node in nodes(ast.ClassDef):
@@ -160,6 +200,11 @@ class Language(unittest.TestCase):
         for file, node in nodes(ast.Attribute):
             known = node.attr in methods | values | set(VALUE_METHODS) | {"__init__"}
             self.assertTrue(known, (file, node.lineno, node.attr))
+
+
+def called(node):
+    """The name that's called, of a function or a method."""
+    return getattr(node.func, "id", None) or getattr(node.func, "attr", None)
 
 
 def top_names(tree):

@@ -2,7 +2,6 @@
 
 import unittest
 
-from shoppages.shops import read_shop
 from tests.helper import (
     COST, OPEN, TOKENS, band, call, column, could, face, glyph, kind, letter, level, line, one_line, page,
     patched, run, scan, shop, sized, tokens, u16, u32)
@@ -319,58 +318,6 @@ class Faces(Judged):
 
     def test_the_face_is_judged_ahead_of_what_is_left(self):
         self.refused(sized(with_face(FACE[:-1]) + [0]), 69, FORM_END - 1)
-
-
-class Written(unittest.TestCase):
-    """What a taken shop keeps, written again, is the same bytes: so no two rows of bytes say one shop."""
-
-    def check(self, row):
-        if opened(row) == [0]:
-            self.assertEqual(written(read_shop(row)), row)
-
-    def test_rich_shop(self):
-        rich = shop(
-            [FACE, face(1), face(3, glyph(0, "#", ".", "?"))],
-            [kind(1, 2, level((1, 2, 3, 4), ((5, 6, 7, 8, 4), (9, 10, 11, 12, 0)), (0, 1, 2, 3)),
-                  level(gaps=((0, 1, 2, 3, 2), (0, 1, 2, 3, 3))), level(gaps=((0, 1, 2, 3, 1),)),
-                  ((0, 1), (2, 3))),
-             kind(faces=((1, 4095),))],
-            level(gaps=((1, 2, 3, 4, 5), (1, 2, 3, 4, 0))), 65536, 65535, 31, 4095)
-        self.assertEqual(opened(rich), [0])
-        self.assertEqual(written(read_shop(rich)), rich)
-
-    def test_each_byte_changed(self):
-        for place, byte in enumerate(SHOP):
-            for other in {0, 1, 255, byte ^ 1, byte ^ 2, byte ^ 16, (byte + 1) % 256} - {byte}:
-                self.check(patched(SHOP, place, [other]))
-
-
-def written(kept):
-    head = (kept.density, kept.slack, kept.upright, kept.pose_cost, len(kept.faces), len(kept.kinds))
-    form = [83, 72, 79, 80] + u32(0) + sum(map(u32, head), []) + level_bytes(kept.band_rule)
-    for one in kept.kinds:
-        rules = level_bytes(one.column_rule) + level_bytes(one.line_rule) + level_bytes(one.letter_rule)
-        pairs = sum([u32(k) + u32(n) for k, n in one.face_costs.items()], [])
-        form += u32(one.cost) + u32(one.least_width) + rules + u32(len(one.face_costs)) + pairs
-    for one in kept.faces:
-        glyphs = [glyph(g.letter, *[signs(points) for points in g.points], budget=g.budget, cost=g.cost)
-                  for g in one.glyphs]
-        row = face(one.height, *glyphs, wrong=one.wrong_cost)
-        form += u32(len(row)) + row
-    return sized(form)
-
-
-def signs(points):
-    return "".join(".#?"[point] for point in points)
-
-
-def level_bytes(rule):
-    gaps = [numbers(room) + (0 if room.token is None else room.token + 1,) for room in rule.gaps]
-    return level(numbers(rule.lead), gaps, numbers(rule.trail))
-
-
-def numbers(room):
-    return (room.smallest, room.largest, room.natural, room.rate)
 
 
 class Place(unittest.TestCase):
